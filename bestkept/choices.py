@@ -1,4 +1,4 @@
-"""Sets of groupings: what they cost, the best one, the one found step by step."""
+"""Sets of groupings: what they cost, the best ones, those found step by step, the curve."""
 
 COST_OF_CHANGE = 2
 
@@ -71,16 +71,31 @@ def all_read(groupings, question):
 
 def best_set(sets, room, changes):
     """The best set's groupings, in order."""
+    return least_of(sets, [number for number, lines in enumerate(sets.lines) if lines <= room], changes)
+
+
+def best_few(sets, most):
+    """The groupings of the best few, at most so many, in order."""
+    return least_of(sets, [number for number, count in enumerate(sets.kept_counts) if count <= most], 0)
+
+
+def least_of(sets, numbers, changes):
+    """The groupings of the best of the sets with these numbers, the empty one's 0 among them."""
     best = 0
     least = (sets.readings[0], 0)
-    for number, lines in enumerate(sets.lines):
-        if lines <= room:
-            cost = sets.readings[number] + upkeep(sets.kept_counts[number], changes)
-            # Numbers come in order: of alike sets the least number stays.
-            if (cost, lines) < least:
-                best = number
-                least = (cost, lines)
+    for number in numbers:
+        cost = cost_by_number(sets, number, changes)
+        lines = sets.lines[number]
+        # Numbers come in order: of alike sets the least number stays.
+        if (cost, lines) < least:
+            best = number
+            least = (cost, lines)
     return members(best)
+
+
+def cost_by_number(sets, number, changes):
+    """What the set that has this number costs."""
+    return sets.readings[number] + upkeep(sets.kept_counts[number], changes)
 
 
 def members(number):
@@ -88,13 +103,39 @@ def members(number):
     return [grouping for grouping in range(number.bit_length()) if number >> grouping & 1 == 1]
 
 
+def rooms_that_bring(sets, changes):
+    """Each room that brings something, the least first, with what the best set for it costs."""
+    least = {}
+    for number, lines in enumerate(sets.lines):
+        cost = cost_by_number(sets, number, changes)
+        if lines not in least or cost < least[lines]:
+            least[lines] = cost
+    rooms = []
+    for room, cost in sorted(least.items()):
+        if len(rooms) == 0 or cost < rooms[-1][1]:
+            rooms.append((room, cost))
+    return rooms
+
+
 def step_by_step(groupings, room, changes):
     """The groupings found step by step, in the order in which they're taken."""
+    return steps_at_most(groupings, room, changes, len(groupings.sizes))
+
+
+def few_step_by_step(groupings, most):
+    """The few, at most so many, found step by step, in the order in which they're taken."""
+    # Room for all answers together is as good as no bound.
+    return steps_at_most(groupings, sum(groupings.sizes), 0, most)
+
+
+def steps_at_most(groupings, room, changes, most):
+    """The groupings of the first steps, at most so many."""
     kept = []
-    step = best_step(groupings, kept, room, changes)
-    while step is not None:
-        kept.append(step)
+    while len(kept) < most:
         step = best_step(groupings, kept, room, changes)
+        if step is None:
+            break
+        kept.append(step)
     return kept
 
 
@@ -124,13 +165,20 @@ def cost_of(groupings, kept, changes):
 
 def reading_of(groupings, kept):
     """What all questions cost with just these kept."""
-    return sum([times * read_of(groupings, question, kept) for question, times in groupings.asked])
+    return sum([times * what_is_read(groupings, question, kept)[0] for question, times in groupings.asked])
 
 
-def read_of(groupings, question, kept):
-    """What the question costs once with just these kept."""
-    useful = [groupings.sizes[grouping] for grouping in kept if has_all(grouping, question)]
-    return min(useful, default=groupings.whole)
+def what_is_read(groupings, question, kept):
+    """How many lines the question reads, and of which grouping, None if it's the table."""
+    # Of alike sizes the pair with the lesser grouping is the least.
+    useful = [(groupings.sizes[grouping], grouping) for grouping in kept if has_all(grouping, question)]
+    return min(useful, default=(groupings.whole, None))
+
+
+def questions_that_read(groupings, grouping, kept):
+    """The questions, by number, that read this grouping's answer with just these kept."""
+    return [number for number, asked in enumerate(groupings.asked)
+            if what_is_read(groupings, asked[0], kept)[1] == grouping]
 
 
 def upkeep(count, changes):

@@ -11,6 +11,7 @@ SHOWN = [1]
 BEST = [3]
 STEPS = [4]
 CURVE = [8]
+FAR = 10 ** 18
 
 
 def as_bytes(text):
@@ -36,6 +37,15 @@ def price(groupings):
 
 def why(grouping):
     return [7, grouping]
+
+
+def run_many(begin, calls):
+    """What each call answers behind the beginning, in lists of at most 20 calls."""
+    found = []
+    most = 20 - len(begin)
+    for place in range(0, len(calls), most):
+        found += run(*begin, *calls[place:place + most])[len(begin):]
+    return found
 
 
 def cut(answered):
@@ -176,15 +186,54 @@ class Plain:
                                    for reading, lines, number, kept in sets if lines <= room)
         return [cost, lines, len(kept)] + list(kept)
 
-    def steps(self, room, changes):
-        """What steps () answers."""
+    def steps(self, room, changes, most=16):
+        """What steps () answers, with so many steps at most."""
         kept = []
         while True:
             tries = [(self.cost(kept + [one], changes), one) for one in range(len(self.sizes))
                      if one not in kept and self.lines(kept + [one]) <= room]
-            if not tries or min(tries)[0] >= self.cost(kept, changes):
+            if len(kept) == most or not tries or min(tries)[0] >= self.cost(kept, changes):
                 return [self.cost(kept, changes), self.lines(kept), len(kept)] + kept
             kept.append(min(tries)[1])
+
+    def few(self, most, sets):
+        """What few (most) answers, out of every_set()."""
+        reading, _, _, kept = min(one for one in sets if len(one[3]) <= most)
+        steps = self.steps(10 ** 9, 0, most)
+        return [reading, len(kept)] + list(kept) + steps[:1] + steps[2:]
+
+    def price(self, told, room, changes):
+        """What price (told) answers."""
+        kept = {one for one in told if 0 <= one < len(self.sizes)}
+        if kept != set(told):
+            return [-2]
+        together = [self.reading(kept), 2 * changes * len(kept)]
+        return [sum(together), self.lines(kept)] + together + [int(self.lines(kept) <= room)]
+
+    def reads(self, useful, kept):
+        """Which of the kept ones a question reads, or None."""
+        if not any(one in useful for one in kept):
+            return None
+        least = min(useful[one] for one in kept if one in useful)
+        return min(one for one in kept if useful.get(one) == least)
+
+    def why(self, told, room, changes, best):
+        """What why (told) answers, if best () answers this."""
+        if not 0 <= told < len(self.sizes):
+            return [-2]
+        cost, _, _, *kept = best
+        if told in kept:
+            without = self.cost([one for one in kept if one != told], changes)
+            read = [number for number, useful in enumerate(self.useful) if self.reads(useful, kept) == told]
+            return [1, without - cost, len(read)] + read
+        return [0, self.cost(kept + [told], changes) - cost, int(self.lines(kept + [told]) <= room)]
+
+    def curve(self, changes, sets):
+        """What curve () answers, out of every_set()."""
+        priced = [(lines, reading + 2 * changes * len(kept)) for reading, lines, _, kept in sets]
+        costs = [min(cost for lines, cost in priced if lines <= room) for room in range(sum(self.sizes) + 1)]
+        told = [[room, cost] for room, cost in enumerate(costs) if all(cost < less for less in costs[:room])]
+        return [len(told)] + sum(told, [])
 
 
 PIECES = re.compile(rb"(?P<blank>[ \t\n]+|#[^\n]*)|(?P<name>[A-Za-z][A-Za-z0-9]*)"

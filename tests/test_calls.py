@@ -1,9 +1,11 @@
 import unittest
 
 from bestkept.answersets import answers
-from helper import BEST, CURVE, SHOWN, STEPS, WORKED, few, load, price, run, terms, why
+from helper import BEST, CURVE, FAR, SHOWN, STEPS, WORKED, few, load, price, run, terms, why
 
-FAR = 10 ** 18
+# All nine calls, and each refusal but -1.
+ALL_CALLS = [load(WORKED), SHOWN, terms(5, 1), BEST, STEPS, few(2), price([3, 1, 3]), why(1), why(0), CURVE,
+             load("columns"), terms(-1, 0), terms(0, -1), few(5), price([0, 4]), why(-1)]
 
 
 class BeforeAnyTable(unittest.TestCase):
@@ -22,6 +24,10 @@ class BeforeAnyTable(unittest.TestCase):
 
     def test_refused_terms_are_not_taken(self):
         self.assertEqual(run(terms(3, 0), load(WORKED), BEST)[2], [15, 8, 4, 0, 1, 2, 3])
+
+    def test_nothing_of_a_refused_call_is_taken(self):
+        found = run(few(1), price([0]), why(0), CURVE, load(WORKED), why(0), price([0]))
+        self.assertEqual(found[4:], [[1, 2, 5, 4], [1, 1, 1, 3], [31, 1, 31, 0, 1]])
 
 
 class Answers(unittest.TestCase):
@@ -47,25 +53,33 @@ class Answers(unittest.TestCase):
         self.assertEqual(run(price([3, 4, 0, 1]), load([3, 4, 1]), BEST), [[-1], [0, 2, 0], [-1]])
 
     def test_what_is_handed_in_stays(self):
-        calls = load(WORKED) + SHOWN + terms(5, 1) + BEST + STEPS + load("columns") + terms(-1, 0)
+        calls = sum(ALL_CALLS, [])
         before = list(calls)
         answers(calls)
         self.assertEqual(calls, before)
 
     def test_twice_the_same(self):
-        calls = load(WORKED) + terms(5, 1) + BEST + STEPS + SHOWN
+        calls = sum(ALL_CALLS, [])
         first = answers(calls)
         first_copy = list(first)
         self.assertEqual(answers(calls), first_copy)
         first.append(7)
         self.assertEqual(answers(calls), first_copy)
 
+    def test_a_refusal_is_its_number_alone(self):
+        self.assertEqual(run(*ALL_CALLS)[10:], [[0, 3, 7], [-3], [-4], [-3], [-2], [-2]])
+
+    def test_the_longest_price(self):
+        self.assertEqual(answers(load(WORKED) + price([3] * 2000) + [6, 0]),
+                         [4, 1, 2, 5, 4, 5, 21, 3, 21, 0, 1, 5, 35, 0, 35, 0, 1])
+
     def test_nothing_is_kept_from_one_list_to_the_next(self):
         answers(load(WORKED) + terms(3, 0))
-        self.assertEqual(answers(BEST), [1, -1])
+        for call in (BEST, few(1), price([]), why(0), CURVE):
+            self.assertEqual(answers(call), [1, -1])
 
     def test_whole_numbers_alone(self):
-        found = answers(load(WORKED) + SHOWN + terms(5, 1) + BEST + STEPS + load("?"))
+        found = answers(sum(ALL_CALLS, []))
         self.assertIs(type(found), list)
         self.assertEqual({type(number) for number in found}, {int})
 
